@@ -51,3 +51,90 @@ func TestNumbersAndNamesArePutByVariadics(t *testing.T) {
 		t.Error("numbers and names are not put by variadic functions:", variadicsOf(f))
 	}
 }
+
+// arraysOfWords: the package-level arrays of 32-bit words in a file, each with how many it has.
+func arraysOfWords(f *ast.File) map[string]int {
+	out := map[string]int{}
+	for _, d := range f.Decls {
+		g, ok := d.(*ast.GenDecl)
+		if !ok || g.Tok != token.VAR {
+			continue
+		}
+		for _, s := range g.Specs {
+			v := s.(*ast.ValueSpec)
+			for i, name := range v.Names {
+				if i < len(v.Values) && isArrayOfWords(v.Values[i]) {
+					out[name.Name] = len(v.Values[i].(*ast.CompositeLit).Elts)
+				}
+			}
+		}
+	}
+	return out
+}
+
+func isArrayOfWords(e ast.Expr) bool {
+	c, ok := e.(*ast.CompositeLit)
+	if !ok {
+		return false
+	}
+	a, ok := c.Type.(*ast.ArrayType)
+	if !ok || a.Len == nil {
+		return false
+	}
+	id, ok := a.Elt.(*ast.Ident)
+	return ok && id.Name == "uint32"
+}
+
+// writesInPlaceOf: whether a function of the file writes an element of an array that its argument points to.
+func writesInPlaceOf(f *ast.File) bool {
+	found := false
+	for _, d := range f.Decls {
+		fn, ok := d.(*ast.FuncDecl)
+		if !ok {
+			continue
+		}
+		pointed := pointedArrays(fn)
+		ast.Inspect(fn, func(n ast.Node) bool {
+			if a, ok := n.(*ast.AssignStmt); ok {
+				if x, ok := a.Lhs[0].(*ast.IndexExpr); ok {
+					id, ok := x.X.(*ast.Ident)
+					found = found || ok && pointed[id.Name]
+				}
+			}
+			return true
+		})
+	}
+	return found
+}
+
+func pointedArrays(fn *ast.FuncDecl) map[string]bool {
+	out := map[string]bool{}
+	for _, p := range fn.Type.Params.List {
+		star, ok := p.Type.(*ast.StarExpr)
+		if !ok {
+			continue
+		}
+		if a, ok := star.X.(*ast.ArrayType); ok && a.Len != nil {
+			for _, name := range p.Names {
+				out[name.Name] = true
+			}
+		}
+	}
+	return out
+}
+
+func TestWordsOfABlockAreAnArrayTurnedInPlace(t *testing.T) {
+	f, err := parser.ParseFile(token.NewFileSet(), "../impl/l02_sha.go", nil, 0)
+	if err != nil {
+		t.Fatal(err)
+	}
+	if !writesInPlaceOf(f) {
+		t.Error("no array is turned in place")
+	}
+	for _, n := range arraysOfWords(f) {
+		if n == 64 {
+			return
+		}
+	}
+	t.Error("the constants don't stand in an array:", arraysOfWords(f))
+}
