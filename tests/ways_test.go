@@ -138,3 +138,48 @@ func TestWordsOfABlockAreAnArrayTurnedInPlace(t *testing.T) {
 	}
 	t.Error("the constants don't stand in an array:", arraysOfWords(f))
 }
+
+// iteratorsOf: the functions of a file that answer an iter.Seq.
+func iteratorsOf(f *ast.File) map[string]bool {
+	out := map[string]bool{}
+	for _, d := range f.Decls {
+		fn, ok := d.(*ast.FuncDecl)
+		if !ok || fn.Type.Results == nil || len(fn.Type.Results.List) != 1 {
+			continue
+		}
+		if x, ok := fn.Type.Results.List[0].Type.(*ast.IndexExpr); ok {
+			s, ok := x.X.(*ast.SelectorExpr)
+			out[fn.Name.Name] = ok && s.Sel.Name == "Seq"
+		}
+	}
+	return out
+}
+
+// rangesOverIterator: whether the function of this name ranges over what one of these answers.
+func rangesOverIterator(f *ast.File, name string) bool {
+	iterators, found := iteratorsOf(f), false
+	for _, d := range f.Decls {
+		if fn, ok := d.(*ast.FuncDecl); ok && fn.Name.Name == name {
+			ast.Inspect(fn, func(n ast.Node) bool {
+				if r, ok := n.(*ast.RangeStmt); ok {
+					if c, ok := r.X.(*ast.CallExpr); ok {
+						id, ok := c.Fun.(*ast.Ident)
+						found = found || ok && iterators[id.Name]
+					}
+				}
+				return true
+			})
+		}
+	}
+	return found
+}
+
+func TestAPathComesOutOfAnIterator(t *testing.T) {
+	f, err := parser.ParseFile(token.NewFileSet(), "../impl/l03_merkle.go", nil, 0)
+	if err != nil {
+		t.Fatal(err)
+	}
+	if !rangesOverIterator(f, "PathOf") {
+		t.Error("a path does not come out of an iterator:", iteratorsOf(f))
+	}
+}
