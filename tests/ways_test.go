@@ -183,3 +183,53 @@ func TestAPathComesOutOfAnIterator(t *testing.T) {
 		t.Error("a path does not come out of an iterator:", iteratorsOf(f))
 	}
 }
+
+// mapTypesOf: the types of a file that are maps from texts to this type.
+func mapTypesOf(f *ast.File, kind string) map[string]bool {
+	out := map[string]bool{}
+	ast.Inspect(f, func(n ast.Node) bool {
+		if s, ok := n.(*ast.TypeSpec); ok {
+			if m, ok := s.Type.(*ast.MapType); ok {
+				key, isKey := m.Key.(*ast.Ident)
+				value, isValue := m.Value.(*ast.Ident)
+				out[s.Name.Name] = isKey && isValue && key.Name == "string" && value.Name == kind
+			}
+		}
+		return true
+	})
+	return out
+}
+
+// deletesFrom: whether a method of a type that is among these deletes from what it is a method of.
+func deletesFrom(f *ast.File, types map[string]bool) bool {
+	found := false
+	for _, d := range f.Decls {
+		fn, ok := d.(*ast.FuncDecl)
+		if !ok || fn.Recv == nil || len(fn.Recv.List[0].Names) == 0 {
+			continue
+		}
+		of, ok := fn.Recv.List[0].Type.(*ast.Ident)
+		if !ok || !types[of.Name] {
+			continue
+		}
+		ast.Inspect(fn, func(n ast.Node) bool {
+			if c, ok := n.(*ast.CallExpr); ok && len(c.Args) == 2 {
+				called, isCalled := c.Fun.(*ast.Ident)
+				from, isFrom := c.Args[0].(*ast.Ident)
+				found = found || isCalled && isFrom && called.Name == "delete" && from.Name == fn.Recv.List[0].Names[0].Name
+			}
+			return true
+		})
+	}
+	return found
+}
+
+func TestEmptyAccountsAreDeletedFromTheirMap(t *testing.T) {
+	f, err := parser.ParseFile(token.NewFileSet(), "../impl/l04_acct.go", nil, 0)
+	if err != nil {
+		t.Fatal(err)
+	}
+	if books := mapTypesOf(f, "Acct"); !deletesFrom(f, books) {
+		t.Error("no account is deleted from a map of them:", books)
+	}
+}
