@@ -10,6 +10,13 @@ const (
 	maxGroups = 5
 )
 
+// A reader reads one part behind the other, and is asked once, at the end, whether all of them were there.
+type reader struct {
+	b  []byte
+	at int
+	ok bool
+}
+
 func PutNum(b []byte, n int) []byte { return putNums(b, n) }
 
 func GetNum(b []byte, at int) (int, int, bool) {
@@ -139,4 +146,26 @@ func groupsAt(b []byte, at int) (int, int, bool) {
 
 func isNameByte(c byte) bool {
 	return c >= 'a' && c <= 'z' || c >= '0' && c <= '9'
+}
+
+func readerAt(b []byte, at int) reader {
+	return reader{b: b, at: at, ok: true}
+}
+
+func (r *reader) num() int {
+	if !r.ok {
+		return 0
+	}
+	n, next, ok := GetNum(r.b, r.at)
+	r.at, r.ok = next, ok
+	return n
+}
+
+func (r *reader) text() string {
+	if !r.ok {
+		return ""
+	}
+	s, next, ok := GetText(r.b, r.at)
+	r.at, r.ok = next, ok
+	return s
 }

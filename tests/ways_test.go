@@ -233,3 +233,81 @@ func TestEmptyAccountsAreDeletedFromTheirMap(t *testing.T) {
 		t.Error("no account is deleted from a map of them:", books)
 	}
 }
+
+// countedConsts: the constants of a file whose value is counted by iota, whether written there or taken over from the line above.
+func countedConsts(f *ast.File) map[string]bool {
+	out := map[string]bool{}
+	for _, d := range f.Decls {
+		g, ok := d.(*ast.GenDecl)
+		if !ok || g.Tok != token.CONST {
+			continue
+		}
+		counted := false
+		for _, s := range g.Specs {
+			v := s.(*ast.ValueSpec)
+			if len(v.Values) > 0 {
+				counted = namesIota(v)
+			}
+			for _, name := range v.Names {
+				out[name.Name] = counted
+			}
+		}
+	}
+	return out
+}
+
+func namesIota(v *ast.ValueSpec) bool {
+	found := false
+	ast.Inspect(v, func(n ast.Node) bool {
+		id, ok := n.(*ast.Ident)
+		found = found || ok && id.Name == "iota"
+		return true
+	})
+	return found
+}
+
+// takenAs: the names by which a function takes arguments of this type.
+func takenAs(fn *ast.FuncDecl, kind string) map[string]bool {
+	out := map[string]bool{}
+	for _, p := range fn.Type.Params.List {
+		if id, ok := p.Type.(*ast.Ident); ok && id.Name == kind {
+			for _, name := range p.Names {
+				out[name.Name] = true
+			}
+		}
+	}
+	return out
+}
+
+// comparesWhole: whether a function of the file holds an argument of this type, as a whole, against something.
+func comparesWhole(f *ast.File, kind string) bool {
+	found := false
+	for _, d := range f.Decls {
+		fn, ok := d.(*ast.FuncDecl)
+		if !ok {
+			continue
+		}
+		taken := takenAs(fn, kind)
+		ast.Inspect(fn, func(n ast.Node) bool {
+			if b, ok := n.(*ast.BinaryExpr); ok && (b.Op == token.EQL || b.Op == token.NEQ) {
+				id, ok := b.X.(*ast.Ident)
+				found = found || ok && taken[id.Name]
+			}
+			return true
+		})
+	}
+	return found
+}
+
+func TestKindsAreCountedAndOrdersComparedAsStructs(t *testing.T) {
+	f, err := parser.ParseFile(token.NewFileSet(), "../impl/l05_tx.go", nil, 0)
+	if err != nil {
+		t.Fatal(err)
+	}
+	if c := countedConsts(f); !c["TxPay"] || !c["TxBond"] || !c["TxUnbond"] {
+		t.Error("the kinds are not constants with iota:", c)
+	}
+	if !comparesWhole(f, "Tx") {
+		t.Error("no order is compared as a struct")
+	}
+}
