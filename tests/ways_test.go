@@ -311,3 +311,67 @@ func TestKindsAreCountedAndOrdersComparedAsStructs(t *testing.T) {
 		t.Error("no order is compared as a struct")
 	}
 }
+
+// errorTypesOf: the types of a file that are errors by a method of their own.
+func errorTypesOf(f *ast.File) map[string]bool {
+	out := map[string]bool{}
+	for _, d := range f.Decls {
+		fn, ok := d.(*ast.FuncDecl)
+		if !ok || fn.Recv == nil || fn.Name.Name != "Error" {
+			continue
+		}
+		if id, ok := fn.Recv.List[0].Type.(*ast.Ident); ok {
+			out[id.Name] = true
+		}
+	}
+	return out
+}
+
+// asksForAs: whether the function of this name asks by errors.As for a variable of one of these types.
+func asksForAs(f *ast.File, name string, kinds map[string]bool) bool {
+	asked, found := map[string]bool{}, false
+	for _, d := range f.Decls {
+		if fn, ok := d.(*ast.FuncDecl); ok && fn.Name.Name == name {
+			ast.Inspect(fn, func(n ast.Node) bool {
+				switch x := n.(type) {
+				case *ast.ValueSpec:
+					if id, ok := x.Type.(*ast.Ident); ok && kinds[id.Name] {
+						asked[x.Names[0].Name] = true
+					}
+				case *ast.CallExpr:
+					found = found || isErrorsAs(x.Fun) && len(x.Args) == 2 && pointsTo(x.Args[1], asked)
+				}
+				return true
+			})
+		}
+	}
+	return found
+}
+
+func isErrorsAs(e ast.Expr) bool {
+	s, ok := e.(*ast.SelectorExpr)
+	if !ok {
+		return false
+	}
+	from, ok := s.X.(*ast.Ident)
+	return ok && from.Name == "errors" && s.Sel.Name == "As"
+}
+
+func pointsTo(e ast.Expr, names map[string]bool) bool {
+	u, ok := e.(*ast.UnaryExpr)
+	if !ok || u.Op != token.AND {
+		return false
+	}
+	id, ok := u.X.(*ast.Ident)
+	return ok && names[id.Name]
+}
+
+func TestWhatAnOrderLacksIsAnErrorOfItsOwnType(t *testing.T) {
+	f, err := parser.ParseFile(token.NewFileSet(), "../impl/l06_ledger.go", nil, 0)
+	if err != nil {
+		t.Fatal(err)
+	}
+	if kinds := errorTypesOf(f); !asksForAs(f, "Apply", kinds) {
+		t.Error("what an order lacks is not asked for by errors.As:", kinds)
+	}
+}
