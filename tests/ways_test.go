@@ -375,3 +375,53 @@ func TestWhatAnOrderLacksIsAnErrorOfItsOwnType(t *testing.T) {
 		t.Error("what an order lacks is not asked for by errors.As:", kinds)
 	}
 }
+
+// genericsHandedFunctions: the generic functions of a file, each with the place at which it is handed a function (-1: at none).
+func genericsHandedFunctions(f *ast.File) map[string]int {
+	out := map[string]int{}
+	for _, d := range f.Decls {
+		fn, ok := d.(*ast.FuncDecl)
+		if !ok || fn.Type.TypeParams == nil {
+			continue
+		}
+		place := 0
+		out[fn.Name.Name] = -1
+		for _, p := range fn.Type.Params.List {
+			if _, ok := p.Type.(*ast.FuncType); ok {
+				out[fn.Name.Name] = place
+			}
+			place += max(len(p.Names), 1)
+		}
+	}
+	return out
+}
+
+// handsFunctionTo: whether the function of this name calls one of these, and hands it a function there.
+func handsFunctionTo(f *ast.File, name string, generics map[string]int) bool {
+	found := false
+	for _, d := range f.Decls {
+		if fn, ok := d.(*ast.FuncDecl); ok && fn.Name.Name == name {
+			ast.Inspect(fn, func(n ast.Node) bool {
+				if c, ok := n.(*ast.CallExpr); ok {
+					if id, ok := c.Fun.(*ast.Ident); ok {
+						place, there := generics[id.Name]
+						found = found || there && place >= 0 && len(c.Args) > place
+					}
+				}
+				return true
+			})
+		}
+	}
+	return found
+}
+
+func TestWeightsAreSummedByAGenericFunction(t *testing.T) {
+	f, err := parser.ParseFile(token.NewFileSet(), "../impl/l07_set.go", nil, 0)
+	if err != nil {
+		t.Fatal(err)
+	}
+	generics := genericsHandedFunctions(f)
+	if !handsFunctionTo(f, "WeightOf", generics) || !handsFunctionTo(f, "TotalOf", generics) {
+		t.Error("weights are not summed by a generic function that is handed a function:", generics)
+	}
+}
