@@ -425,3 +425,62 @@ func TestWeightsAreSummedByAGenericFunction(t *testing.T) {
 		t.Error("weights are not summed by a generic function that is handed a function:", generics)
 	}
 }
+
+// gathersByClosure: whether the function of this name has a function within it that writes into a variable that is declared outside of that one.
+func gathersByClosure(f *ast.File, name string) bool {
+	found := false
+	for _, d := range f.Decls {
+		if fn, ok := d.(*ast.FuncDecl); ok && fn.Name.Name == name {
+			ast.Inspect(fn, func(n ast.Node) bool {
+				if lit, ok := n.(*ast.FuncLit); ok {
+					found = found || writesOutside(lit)
+				}
+				return true
+			})
+		}
+	}
+	return found
+}
+
+func writesOutside(lit *ast.FuncLit) bool {
+	inside, found := map[string]bool{}, false
+	ast.Inspect(lit, func(n ast.Node) bool {
+		a, ok := n.(*ast.AssignStmt)
+		if !ok {
+			return true
+		}
+		for _, to := range a.Lhs {
+			of := writtenName(to)
+			if a.Tok == token.DEFINE {
+				inside[of] = true
+			} else {
+				found = found || of != "" && !inside[of]
+			}
+		}
+		return true
+	})
+	return found
+}
+
+// writtenName: of x, and of a field of x, the name x.
+func writtenName(e ast.Expr) string {
+	if s, ok := e.(*ast.SelectorExpr); ok {
+		e = s.X
+	}
+	if id, ok := e.(*ast.Ident); ok {
+		return id.Name
+	}
+	return ""
+}
+
+func TestVotesAreGatheredByAClosure(t *testing.T) {
+	f, err := parser.ParseFile(token.NewFileSet(), "../impl/l08_cert.go", nil, 0)
+	if err != nil {
+		t.Fatal(err)
+	}
+	for _, name := range []string{"GatherQc", "GatherTc"} {
+		if !gathersByClosure(f, name) {
+			t.Errorf("%s does not gather by a closure", name)
+		}
+	}
+}
