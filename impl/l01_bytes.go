@@ -169,3 +169,22 @@ func (r *reader) text() string {
 	r.at, r.ok = next, ok
 	return s
 }
+
+func (r *reader) names() []string {
+	if !r.ok {
+		return nil
+	}
+	l, next, ok := GetNames(r.b, r.at)
+	r.at, r.ok = next, ok
+	return l
+}
+
+// count is a number of parts that come behind it; a greater one than can be right ends the reading, for as many parts would be gone through.
+func (r *reader) count(most int) int {
+	n := r.num()
+	if !within(n, 0, most) {
+		r.ok = false
+		return 0
+	}
+	return n
+}

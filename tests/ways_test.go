@@ -484,3 +484,137 @@ func TestVotesAreGatheredByAClosure(t *testing.T) {
 		}
 	}
 }
+
+// bodyOf: the function of this name in a file, without a receiver.
+func bodyOf(f *ast.File, name string) *ast.FuncDecl {
+	for _, d := range f.Decls {
+		if fn, ok := d.(*ast.FuncDecl); ok && fn.Recv == nil && fn.Name.Name == name {
+			return fn
+		}
+	}
+	return nil
+}
+
+// reachedIn: the functions of a file that this one calls, directly or by others there, itself among them.
+func reachedIn(f *ast.File, name string) []*ast.FuncDecl {
+	seen := map[string]bool{name: true}
+	var out []*ast.FuncDecl
+	for work := []string{name}; len(work) > 0; work = work[1:] {
+		fn := bodyOf(f, work[0])
+		if fn == nil {
+			continue
+		}
+		out = append(out, fn)
+		ast.Inspect(fn, func(n ast.Node) bool {
+			if c, ok := n.(*ast.CallExpr); ok {
+				if id, ok := c.Fun.(*ast.Ident); ok && !seen[id.Name] {
+					seen[id.Name] = true
+					work = append(work, id.Name)
+				}
+			}
+			return true
+		})
+	}
+	return out
+}
+
+// anyNode: whether one of these functions has a node of which this holds.
+func anyNode(fns []*ast.FuncDecl, holds func(n ast.Node) bool) bool {
+	found := false
+	for _, fn := range fns {
+		ast.Inspect(fn, func(n ast.Node) bool {
+			found = found || n != nil && holds(n)
+			return true
+		})
+	}
+	return found
+}
+
+func isCutByThree(n ast.Node) bool {
+	s, ok := n.(*ast.SliceExpr)
+	return ok && s.Slice3
+}
+
+func isCopy(n ast.Node) bool {
+	c, ok := n.(*ast.CallExpr)
+	if !ok {
+		return false
+	}
+	id, ok := c.Fun.(*ast.Ident)
+	return ok && id.Name == "copy"
+}
+
+// namedErrors: the package-level variables of a file that errors.New makes.
+func namedErrors(f *ast.File) map[string]bool {
+	out := map[string]bool{}
+	for _, d := range f.Decls {
+		g, ok := d.(*ast.GenDecl)
+		if !ok || g.Tok != token.VAR {
+			continue
+		}
+		for _, s := range g.Specs {
+			v := s.(*ast.ValueSpec)
+			for i, name := range v.Names {
+				if i < len(v.Values) {
+					c, ok := v.Values[i].(*ast.CallExpr)
+					out[name.Name] = ok && isOfErrors(c.Fun, "New")
+				}
+			}
+		}
+	}
+	return out
+}
+
+func isOfErrors(e ast.Expr, name string) bool {
+	s, ok := e.(*ast.SelectorExpr)
+	if !ok {
+		return false
+	}
+	from, ok := s.X.(*ast.Ident)
+	return ok && from.Name == "errors" && s.Sel.Name == name
+}
+
+// wrapsAnError: whether a type of the file hands out, by Unwrap, what it wraps.
+func wrapsAnError(f *ast.File) bool {
+	kinds, found := errorTypesOf(f), false
+	for _, d := range f.Decls {
+		if fn, ok := d.(*ast.FuncDecl); ok && fn.Recv != nil && fn.Name.Name == "Unwrap" {
+			id, ok := fn.Recv.List[0].Type.(*ast.Ident)
+			found = found || ok && kinds[id.Name]
+		}
+	}
+	return found
+}
+
+func TestBytesOfABlockAreCutByThreeAndCopied(t *testing.T) {
+	f, err := parser.ParseFile(token.NewFileSet(), "../impl/l09_block.go", nil, 0)
+	if err != nil {
+		t.Fatal(err)
+	}
+	put, get := reachedIn(f, "PutBlock"), reachedIn(f, "GetBlock")
+	if !anyNode(put, isCutByThree) || !anyNode(get, isCutByThree) {
+		t.Error("bytes are not cut by three indexes")
+	}
+	if !anyNode(put, isCopy) {
+		t.Error("bytes are not copied by copy")
+	}
+}
+
+func TestWhatIsNoBlockIsAWrappedError(t *testing.T) {
+	f, err := parser.ParseFile(token.NewFileSet(), "../impl/l09_block.go", nil, 0)
+	if err != nil {
+		t.Fatal(err)
+	}
+	named := namedErrors(f)
+	asked := anyNode([]*ast.FuncDecl{bodyOf(f, "GetBlock")}, func(n ast.Node) bool {
+		c, ok := n.(*ast.CallExpr)
+		if !ok || !isOfErrors(c.Fun, "Is") || len(c.Args) != 2 {
+			return false
+		}
+		id, ok := c.Args[1].(*ast.Ident)
+		return ok && named[id.Name]
+	})
+	if !asked || !wrapsAnError(f) {
+		t.Error("what is no block is not a wrapped error, asked for by errors.Is:", named)
+	}
+}
