@@ -618,3 +618,72 @@ func TestWhatIsNoBlockIsAWrappedError(t *testing.T) {
 		t.Error("what is no block is not a wrapped error, asked for by errors.Is:", named)
 	}
 }
+
+// genericTypesOf: the types of a file that take types.
+func genericTypesOf(f *ast.File) map[string]*ast.TypeSpec {
+	out := map[string]*ast.TypeSpec{}
+	ast.Inspect(f, func(n ast.Node) bool {
+		if s, ok := n.(*ast.TypeSpec); ok && s.TypeParams != nil {
+			out[s.Name.Name] = s
+		}
+		return true
+	})
+	return out
+}
+
+// isOneOf: whether n is one of these generic types, told of a type.
+func isOneOf(n ast.Node, generics map[string]*ast.TypeSpec) bool {
+	x, ok := n.(*ast.IndexExpr)
+	if !ok {
+		return false
+	}
+	id, ok := x.X.(*ast.Ident)
+	return ok && generics[id.Name] != nil
+}
+
+// pointsToItsKind: whether one of these generic types has a pointer to one of its own kind.
+func pointsToItsKind(generics map[string]*ast.TypeSpec) bool {
+	found := false
+	for name, s := range generics {
+		ast.Inspect(s, func(n ast.Node) bool {
+			star, ok := n.(*ast.StarExpr)
+			found = found || ok && isOneOf(star.X, map[string]*ast.TypeSpec{name: s})
+			return true
+		})
+	}
+	return found
+}
+
+func TestBlocksAreReachedByPointersInAGenericTree(t *testing.T) {
+	f, err := parser.ParseFile(token.NewFileSet(), "../impl/l10_tree.go", nil, 0)
+	if err != nil {
+		t.Fatal(err)
+	}
+	generics := genericTypesOf(f)
+	if !pointsToItsKind(generics) {
+		t.Error("no generic type points to its own kind:", generics)
+	}
+	for _, name := range []string{"TreeOk", "ChainOf", "Extends"} {
+		if !anyNode(reachedIn(f, name), func(n ast.Node) bool { return isOneOf(n, generics) }) {
+			t.Errorf("%s has no generic tree", name)
+		}
+	}
+	for _, name := range []string{"BlockAt", "CommitOf"} {
+		if !anyNode(reachedIn(f, name), answersPointer) {
+			t.Errorf("%s reaches no block by a pointer", name)
+		}
+	}
+}
+
+func answersPointer(n ast.Node) bool {
+	fn, ok := n.(*ast.FuncType)
+	if !ok || fn.Results == nil {
+		return false
+	}
+	for _, r := range fn.Results.List {
+		if _, ok := r.Type.(*ast.StarExpr); ok {
+			return true
+		}
+	}
+	return false
+}
