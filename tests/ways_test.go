@@ -4,6 +4,7 @@ import (
 	"go/ast"
 	"go/parser"
 	"go/token"
+	"path/filepath"
 	"testing"
 )
 
@@ -686,4 +687,96 @@ func answersPointer(n ast.Node) bool {
 		}
 	}
 	return false
+}
+
+// wholeProgram: the declarations of all files of the program as one file.
+func wholeProgram(t *testing.T) *ast.File {
+	t.Helper()
+	names, _ := filepath.Glob("../impl/*.go")
+	whole := &ast.File{}
+	for _, name := range names {
+		f, err := parser.ParseFile(token.NewFileSet(), name, nil, 0)
+		if err != nil {
+			t.Fatal(err)
+		}
+		whole.Decls = append(whole.Decls, f.Decls...)
+	}
+	return whole
+}
+
+// methodsAsked: the interfaces of a file, each with the names of the methods it asks for.
+func methodsAsked(f *ast.File) map[string][]string {
+	out := map[string][]string{}
+	ast.Inspect(f, func(n ast.Node) bool {
+		s, ok := n.(*ast.TypeSpec)
+		if !ok {
+			return true
+		}
+		if i, ok := s.Type.(*ast.InterfaceType); ok {
+			for _, m := range i.Methods.List {
+				for _, name := range m.Names {
+					out[s.Name.Name] = append(out[s.Name.Name], name.Name)
+				}
+			}
+		}
+		return true
+	})
+	return out
+}
+
+// typesThatHave: the types of a file that have all these methods.
+func typesThatHave(f *ast.File, methods []string) map[string]bool {
+	has := map[string]int{}
+	for _, d := range f.Decls {
+		fn, ok := d.(*ast.FuncDecl)
+		if !ok || fn.Recv == nil {
+			continue
+		}
+		of, ok := fn.Recv.List[0].Type.(*ast.Ident)
+		for _, name := range methods {
+			if ok && fn.Name.Name == name {
+				has[of.Name]++
+			}
+		}
+	}
+	out := map[string]bool{}
+	for name, n := range has {
+		out[name] = n == len(methods)
+	}
+	return out
+}
+
+// toldApart: how many of these types a type switch tells.
+func toldApart(s *ast.TypeSwitchStmt, kinds map[string]bool) int {
+	told := map[string]bool{}
+	for _, c := range s.Body.List {
+		for _, e := range c.(*ast.CaseClause).List {
+			if id, ok := e.(*ast.Ident); ok && kinds[id.Name] {
+				told[id.Name] = true
+			}
+		}
+	}
+	return len(told)
+}
+
+func TestAnOrderWithinIsToldByATypeSwitch(t *testing.T) {
+	f, err := parser.ParseFile(token.NewFileSet(), "../impl/l11_body.go", nil, 0)
+	if err != nil {
+		t.Fatal(err)
+	}
+	whole := wholeProgram(t)
+	for name, methods := range methodsAsked(f) {
+		kinds := typesThatHave(f, methods)
+		for _, face := range []string{"LedgerAt", "BodyOk", "MakeBody"} {
+			if !anyNode(reachedIn(whole, face), func(n ast.Node) bool {
+				s, ok := n.(*ast.TypeSwitchStmt)
+				return ok && toldApart(s, kinds) == 3
+			}) {
+				t.Errorf("%s tells no %s by a type switch of three kinds: %v", face, name, kinds)
+			}
+		}
+	}
+	if len(methodsAsked(f)) != 1 {
+		t.Error("an order within is no interface:", methodsAsked(f))
+	}
 }
