@@ -777,20 +777,31 @@ func (c treeCall) whole() string {
 	return s
 }
 
+// An argsCall is all that a chapter can be asked of some arguments: the answers as one text, what they should be, and all memory of the arguments.
+type argsCall interface {
+	ask() string
+	wanted() string
+	whole() string
+}
+
+// leavesArgs: room is c with something in the spare room behind each list, which is neither read nor written.
+func leavesArgs(t *testing.T, i int, c, room argsCall) {
+	t.Helper()
+	want, kept, keptCall := c.wanted(), room.whole(), c.whole()
+	if got := c.ask(); got != want {
+		t.Errorf("%d: %s, not %s", i, got, want)
+	}
+	if got := room.ask(); got != want {
+		t.Errorf("%d: what lies behind the lists was read: %s, not %s", i, got, want)
+	}
+	if room.whole() != kept || c.whole() != keptCall {
+		t.Errorf("%d: wrote into an argument or behind it: %s, not %s", i, room.whole(), kept)
+	}
+}
+
 func TestBlockTreesLeaveTheirArguments(t *testing.T) {
 	for i, c := range treeCalls() {
-		room, want := c.roomy(), c.wanted()
-		cut := room.cutTo(c)
-		kept, keptCall := cut.whole(), c.whole()
-		if got := c.ask(); got != want {
-			t.Errorf("%d: %s, not %s", i, got, want)
-		}
-		if got := cut.ask(); got != want {
-			t.Errorf("%d: what lies behind the lists was read: %s, not %s", i, got, want)
-		}
-		if cut.whole() != kept || c.whole() != keptCall {
-			t.Errorf("%d: wrote into an argument or behind it: %s, not %s", i, cut.whole(), kept)
-		}
+		leavesArgs(t, i, c, c.roomy().cutTo(c))
 	}
 }
 

@@ -831,17 +831,7 @@ func (c bodyCall) whole() string {
 
 func TestBodiesLeaveTheirArguments(t *testing.T) {
 	for i, c := range bodyCalls() {
-		room, want := c.roomy(), c.wanted()
-		kept, keptCall := room.whole(), c.whole()
-		if got := c.ask(); got != want {
-			t.Errorf("%d: %s, not %s", i, got, want)
-		}
-		if got := room.ask(); got != want {
-			t.Errorf("%d: what lies behind the lists was read: %s, not %s", i, got, want)
-		}
-		if room.whole() != kept || c.whole() != keptCall {
-			t.Errorf("%d: wrote into an argument or behind it: %s, not %s", i, room.whole(), kept)
-		}
+		leavesArgs(t, i, c, c.roomy())
 	}
 }
 

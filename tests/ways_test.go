@@ -5,6 +5,7 @@ import (
 	"go/parser"
 	"go/token"
 	"path/filepath"
+	"slices"
 	"testing"
 )
 
@@ -778,5 +779,46 @@ func TestAnOrderWithinIsToldByATypeSwitch(t *testing.T) {
 	}
 	if len(methodsAsked(f)) != 1 {
 		t.Error("an order within is no interface:", methodsAsked(f))
+	}
+}
+
+// goesOnByLabel: whether a labelled loop in this function goes on, by its label, out of another loop within it.
+func goesOnByLabel(fn *ast.FuncDecl) bool {
+	return anyNode([]*ast.FuncDecl{fn}, func(n ast.Node) bool {
+		outer, ok := n.(*ast.LabeledStmt)
+		if !ok {
+			return false
+		}
+		loop, ok := outer.Stmt.(*ast.RangeStmt)
+		return ok && anyLoopWithin(loop.Body, func(n ast.Node) bool {
+			b, ok := n.(*ast.BranchStmt)
+			return ok && b.Tok == token.CONTINUE && b.Label != nil && b.Label.Name == outer.Label.Name
+		})
+	})
+}
+
+// anyLoopWithin: whether a loop in this body has a node of which this holds.
+func anyLoopWithin(body *ast.BlockStmt, holds func(n ast.Node) bool) bool {
+	found := false
+	ast.Inspect(body, func(n ast.Node) bool {
+		switch n.(type) {
+		case *ast.RangeStmt, *ast.ForStmt:
+			ast.Inspect(n, func(m ast.Node) bool {
+				found = found || m != nil && holds(m)
+				return true
+			})
+		}
+		return true
+	})
+	return found
+}
+
+func TestTheLoopOverWhatWaitsGoesOnByItsLabel(t *testing.T) {
+	f, err := parser.ParseFile(token.NewFileSet(), "../impl/l12_pool.go", nil, 0)
+	if err != nil {
+		t.Fatal(err)
+	}
+	if !slices.ContainsFunc(reachedIn(f, "PoolDrop"), goesOnByLabel) {
+		t.Error("no loop over what waits goes on by its label")
 	}
 }
