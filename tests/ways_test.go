@@ -822,3 +822,37 @@ func TestTheLoopOverWhatWaitsGoesOnByItsLabel(t *testing.T) {
 		t.Error("no loop over what waits goes on by its label")
 	}
 }
+
+// fallsThroughByKind: whether a switch over Kind in this function has a clause that does something, and falls through to the next one.
+func fallsThroughByKind(fn *ast.FuncDecl) bool {
+	return anyNode([]*ast.FuncDecl{fn}, func(n ast.Node) bool {
+		s, ok := n.(*ast.SwitchStmt)
+		if !ok {
+			return false
+		}
+		over, ok := s.Tag.(*ast.SelectorExpr)
+		if !ok || over.Sel.Name != "Kind" {
+			return false
+		}
+		return slices.ContainsFunc(s.Body.List, func(c ast.Stmt) bool {
+			body := c.(*ast.CaseClause).Body
+			if len(body) < 2 {
+				return false
+			}
+			b, ok := body[len(body)-1].(*ast.BranchStmt)
+			return ok && b.Tok == token.FALLTHROUGH
+		})
+	})
+}
+
+func TestWhatAKindSignsFallsThrough(t *testing.T) {
+	f, err := parser.ParseFile(token.NewFileSet(), "../impl/l13_msg.go", nil, 0)
+	if err != nil {
+		t.Fatal(err)
+	}
+	for _, name := range []string{"SigsOf", "Signed"} {
+		if !slices.ContainsFunc(reachedIn(f, name), fallsThroughByKind) {
+			t.Errorf("%s: what a kind signs does not fall through to what all kinds do", name)
+		}
+	}
+}
