@@ -132,10 +132,10 @@ func sigsWanted(m impl.Msg) []impl.Sig {
 			l = append(l, impl.Sig{Kind: 2, Epoch: m.Epoch, Round: x.Round, What: highs[i], Who: who})
 		}
 	}
-	if m.Kind == 2 {
+	if m.Kind == 2 || m.V.Round != 0 || m.V.Block != 0 || m.V.Who != "" {
 		certs(impl.Qc{Round: m.V.Round, Block: m.V.Block, Who: []string{m.V.Who}}, impl.Tc{})
 	}
-	if m.Kind == 3 {
+	if m.Kind == 3 || m.G.Round != 0 || m.G.High != 0 || m.G.Who != "" {
 		certs(impl.Qc{}, impl.Tc{Round: m.G.Round, Who: []string{m.G.Who}, Highs: []int{m.G.High}})
 	}
 	certs(m.Q, m.T)
@@ -604,14 +604,60 @@ func TestSigsAreOfTheWordsEpoch(t *testing.T) {
 	}
 }
 
-// What a kind signs is its own V or G; what stands in Q, T and blocks counts in each.
-func TestSigsByKind(t *testing.T) {
-	all := impl.Msg{To: "bob", Epoch: 1, Bs: []impl.Block{nextBlock()}, V: impl.Vote{Round: 2, Block: 8, Who: "v"}, G: impl.Gone{Round: 9, High: 6, Who: "g"}, Q: qcOf(6, 4, "x"), T: tcOf(8, "w", 6)}
+// No kind is told apart in what is signed: what stands in V and G counts in each, as what stands in Q, T and blocks does.
+func TestSigsOfEachKind(t *testing.T) {
+	v, g := impl.Vote{Round: 2, Block: 8, Who: "v"}, impl.Gone{Round: 9, High: 6, Who: "g"}
+	all := impl.Msg{To: "bob", Epoch: 1, Bs: []impl.Block{nextBlock()}, Q: qcOf(6, 4, "x"), T: tcOf(8, "w", 6)}
 	rest := " v6/4/x g8/6/w v5/2/a v5/2/b v5/2/c"
-	for kind, own := range map[int]string{1: "", 2: "v2/8/v", 3: "g9/6/g", 4: "", 0: "", 5: "", -1: "", math.MaxInt: "", math.MinInt: ""} {
+	for _, kind := range []int{1, 2, 3, 4, 0, 5, -1, math.MaxInt, math.MinInt} {
 		all.Kind = kind
-		if got := impl.SigsOf(all); !slices.Equal(got, sigsTold(1, own+rest)) || checkWord(t, all) {
-			t.Errorf("the kind %d: %v", kind, got)
+		for _, x := range []struct {
+			v    impl.Vote
+			g    impl.Gone
+			want string
+		}{{v, g, "v2/8/v g9/6/g"}, {v, impl.Gone{}, "v2/8/v"}, {impl.Vote{}, g, "g9/6/g"}, {impl.Vote{}, impl.Gone{}, ""}} {
+			// A vote, or a leaving, that is zero in a word of its own kind is asked elsewhere.
+			if kind == 2 && x.v.Who == "" || kind == 3 && x.g.Who == "" {
+				continue
+			}
+			all.V, all.G = x.v, x.g
+			if got := impl.SigsOf(all); !slices.Equal(got, sigsTold(1, x.want+rest)) || checkWord(t, all) != (kind == 4 && x.want == "") {
+				t.Errorf("the kind %d: %v, not %s", kind, got, x.want+rest)
+			}
+			checkEachAsked(t, all)
+		}
+	}
+}
+
+// checkEachAsked: with one signature less in the table, the word is not signed, but by a foul one.
+func checkEachAsked(t *testing.T, m impl.Msg) {
+	t.Helper()
+	sigs := sigsWanted(m)
+	for i, s := range sigs {
+		rest := slices.Delete(slices.Clone(sigs), i, i+1)
+		if !checkSigned(t, sigs, nil, m) || checkSigned(t, rest, nil, m) || !checkSigned(t, rest, []string{s.Who}, m) {
+			t.Errorf("%s: signed without %v, or not by a foul one", wordTold(m), s)
+		}
+	}
+}
+
+// One part that is not zero is enough for a vote, or a leaving, to stand in a word.
+func TestSigsOfPartsOfVotes(t *testing.T) {
+	for kind := range 6 {
+		for _, n := range []int{1, -1, 10000, math.MaxInt, math.MinInt} {
+			m := impl.Msg{Kind: kind, To: "bob", Epoch: 3, Q: rootQc()}
+			for _, v := range []impl.Vote{{Round: n}, {Block: n}, {Who: "a"}} {
+				m.V, m.G = v, impl.Gone{}
+				if got := impl.SigsOf(m); checkWord(t, m) || !slices.Contains(got, impl.Sig{Kind: 1, Epoch: 3, Round: v.Round, What: v.Block, Who: v.Who}) {
+					t.Errorf("the kind %d, %+v: %v", kind, v, got)
+				}
+			}
+			for _, g := range []impl.Gone{{Round: n}, {High: n}, {Who: "a"}} {
+				m.V, m.G = impl.Vote{}, g
+				if got := impl.SigsOf(m); checkWord(t, m) || !slices.Contains(got, impl.Sig{Kind: 2, Epoch: 3, Round: g.Round, What: g.High, Who: g.Who}) {
+					t.Errorf("the kind %d, %+v: %v", kind, g, got)
+				}
+			}
 		}
 	}
 }
@@ -817,7 +863,7 @@ func TestSigsOfWordsNotRight(t *testing.T) {
 		"a vote that is zero":         {impl.Msg{Kind: 2, Epoch: 4}, []impl.Sig{{Kind: 1, Epoch: 4}}},
 		"a leaving that is zero":      {impl.Msg{Kind: 3, Epoch: 4}, []impl.Sig{{Kind: 2, Epoch: 4}}},
 		"to no one":                   {withWord(voteWord(3, 7, "ann"), func(m *impl.Msg) { m.To = "" }), sigsTold(1, "v3/7/ann")},
-		"a vote in a share":           {withWord(shareWord(qcOf(5, 2, "b"), impl.Tc{}), func(m *impl.Msg) { m.V = impl.Vote{Round: 3, Block: 7, Who: "ann"} }), sigsTold(1, "v5/2/b")},
+		"a vote in a share":           {withWord(shareWord(qcOf(5, 2, "b"), impl.Tc{}), func(m *impl.Msg) { m.V = impl.Vote{Round: 3, Block: 7, Who: "ann"} }), sigsTold(1, "v3/7/ann v5/2/b")},
 		"a certificate beside a vote": {withWord(voteWord(3, 7, "ann"), func(m *impl.Msg) { m.Q = qcOf(5, 2, "b") }), sigsTold(1, "v3/7/ann v5/2/b")},
 		"names out of order":          {shareWord(qcOf(5, 2, "b a b"), tcOf(3, "c A c", 2, 9, -1)), sigsTold(1, "v5/2/b v5/2/a v5/2/b g3/2/c g3/9/A g3/-1/c")},
 		"the root's with names":       {shareWord(qcOf(0, -1, "a b"), tcOf(0, "c", 0)), sigsTold(1, "v0/-1/a v0/-1/b g0/0/c")},

@@ -823,15 +823,11 @@ func TestTheLoopOverWhatWaitsGoesOnByItsLabel(t *testing.T) {
 	}
 }
 
-// fallsThroughByKind: whether a switch over Kind in this function has a clause that does something, and falls through to the next one.
-func fallsThroughByKind(fn *ast.FuncDecl) bool {
+// fallsThrough: whether a switch in this function has a clause that does something, and falls through to the next one.
+func fallsThrough(fn *ast.FuncDecl) bool {
 	return anyNode([]*ast.FuncDecl{fn}, func(n ast.Node) bool {
 		s, ok := n.(*ast.SwitchStmt)
 		if !ok {
-			return false
-		}
-		over, ok := s.Tag.(*ast.SelectorExpr)
-		if !ok || over.Sel.Name != "Kind" {
 			return false
 		}
 		return slices.ContainsFunc(s.Body.List, func(c ast.Stmt) bool {
@@ -851,7 +847,7 @@ func TestWhatAKindSignsFallsThrough(t *testing.T) {
 		t.Fatal(err)
 	}
 	for _, name := range []string{"SigsOf", "Signed"} {
-		if !slices.ContainsFunc(reachedIn(f, name), fallsThroughByKind) {
+		if !slices.ContainsFunc(reachedIn(f, name), fallsThrough) {
 			t.Errorf("%s: what a kind signs does not fall through to what all kinds do", name)
 		}
 	}
