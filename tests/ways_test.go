@@ -537,14 +537,7 @@ func isCutByThree(n ast.Node) bool {
 	return ok && s.Slice3
 }
 
-func isCopy(n ast.Node) bool {
-	c, ok := n.(*ast.CallExpr)
-	if !ok {
-		return false
-	}
-	id, ok := c.Fun.(*ast.Ident)
-	return ok && id.Name == "copy"
-}
+func isCopy(n ast.Node) bool { return isCallOf(n, "copy") }
 
 // namedErrors: the package-level variables of a file that errors.New makes.
 func namedErrors(f *ast.File) map[string]bool {
@@ -849,6 +842,50 @@ func TestWhatAKindSignsFallsThrough(t *testing.T) {
 	for _, name := range []string{"SigsOf", "Signed"} {
 		if !slices.ContainsFunc(reachedIn(f, name), fallsThrough) {
 			t.Errorf("%s: what a kind signs does not fall through to what all kinds do", name)
+		}
+	}
+}
+
+// isCallOf: whether n calls what has this name.
+func isCallOf(n ast.Node, name string) bool {
+	c, ok := n.(*ast.CallExpr)
+	if !ok {
+		return false
+	}
+	id, ok := c.Fun.(*ast.Ident)
+	return ok && id.Name == name
+}
+
+// defersRecover: whether n defers a function literal that recovers.
+func defersRecover(n ast.Node) bool {
+	d, ok := n.(*ast.DeferStmt)
+	if !ok {
+		return false
+	}
+	lit, ok := d.Call.Fun.(*ast.FuncLit)
+	if !ok {
+		return false
+	}
+	found := false
+	ast.Inspect(lit.Body, func(m ast.Node) bool {
+		found = found || m != nil && isCallOf(m, "recover")
+		return true
+	})
+	return found
+}
+
+func TestWhatANodeCannotDoGivesUp(t *testing.T) {
+	f, err := parser.ParseFile(token.NewFileSet(), "../impl/l14_node.go", nil, 0)
+	if err != nil {
+		t.Fatal(err)
+	}
+	for _, name := range []string{"Hear", "LeaveRound", "Lead", "Submit", "Reboot", "ShareOf"} {
+		reached := reachedIn(f, name)
+		if !anyNode(reached, func(n ast.Node) bool { return isCallOf(n, "panic") }) {
+			t.Errorf("%s does not give up by a panic", name)
+		}
+		if !anyNode(reached, defersRecover) {
+			t.Errorf("%s: no deferred recover catches that", name)
 		}
 	}
 }
