@@ -407,14 +407,14 @@ func TestTxLessKnown(t *testing.T) {
 	}
 }
 
+// A byte 0 or 1 is told by two, so that the end of a text is less than whatever it may go on with.
+var endsTold = strings.NewReplacer("\x00", "\x01\x02", "\x01", "\x01\x03")
+
 // lessWanted holds the parts against each other as texts of one width that are joined.
 func lessWanted(a, b impl.Tx) bool {
 	joined := func(x impl.Tx) string {
 		num := func(n int) string { return fmt.Sprintf("%016x", uint64(n)^1<<63) }
-		// A byte 0 or 1 is told by two, so that the end of a text is less than whatever it may go on with.
-		text := func(s string) string {
-			return strings.NewReplacer("\x00", "\x01\x02", "\x01", "\x01\x03").Replace(s) + "\x01\x01"
-		}
+		text := func(s string) string { return endsTold.Replace(s) + "\x01\x01" }
 		return text(x.From) + num(x.Nonce) + num(x.Kind) + text(x.To) + num(x.Amount)
 	}
 	return joined(a) < joined(b)

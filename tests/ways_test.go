@@ -889,3 +889,53 @@ func TestWhatANodeCannotDoGivesUp(t *testing.T) {
 		}
 	}
 }
+
+// methodsOf: the methods of a file, each with the type that it is a method of ahead of its name.
+func methodsOf(f *ast.File) map[string]bool {
+	out := map[string]bool{}
+	for _, d := range f.Decls {
+		fn, ok := d.(*ast.FuncDecl)
+		if !ok || fn.Recv == nil {
+			continue
+		}
+		if of, ok := fn.Recv.List[0].Type.(*ast.Ident); ok {
+			out[of.Name+"."+fn.Name.Name] = true
+		}
+	}
+	return out
+}
+
+// methodExpressions: how many values of a map that is written out are methods told by their type.
+func methodExpressions(n ast.Node, methods map[string]bool) int {
+	c, ok := n.(*ast.CompositeLit)
+	if !ok {
+		return 0
+	}
+	if _, ok := c.Type.(*ast.MapType); !ok {
+		return 0
+	}
+	many := 0
+	for _, e := range c.Elts {
+		s, ok := e.(*ast.KeyValueExpr).Value.(*ast.SelectorExpr)
+		if !ok {
+			continue
+		}
+		if of, ok := s.X.(*ast.Ident); ok && methods[of.Name+"."+s.Sel.Name] {
+			many++
+		}
+	}
+	return many
+}
+
+func TestWhatAnEventDoesIsAMethodExpressionInAMap(t *testing.T) {
+	f, err := parser.ParseFile(token.NewFileSet(), "../impl/l15_world.go", nil, 0)
+	if err != nil {
+		t.Fatal(err)
+	}
+	methods := methodsOf(f)
+	for _, name := range []string{"Do", "Play"} {
+		if !anyNode(reachedIn(f, name), func(n ast.Node) bool { return methodExpressions(n, methods) == 9 }) {
+			t.Errorf("%s: what an event does is no method expression in a map: %v", name, methods)
+		}
+	}
+}
