@@ -61,6 +61,8 @@ func ownMemory(v reflect.Value, spare int) reflect.Value {
 			list.Index(n).Set(ownMemory(v.Index(0), spare))
 		}
 		out.Set(list.Slice(0, n))
+	case reflect.Interface:
+		out.Set(ownMemory(v.Elem(), spare))
 	default:
 		out.Set(v)
 	}
@@ -171,6 +173,57 @@ func scribbleLists(v reflect.Value) {
 		for i := range whole.Len() {
 			scribbleLists(whole.Index(i))
 			whole.Index(i).SetZero()
+		}
+	}
+}
+
+// A keptCall is something that is asked, with its arguments, and what is wanted of it.
+type keptCall interface {
+	ask() []any
+	wanted() []any
+	String() string
+}
+
+// callAsked asks, and holds the answers against what is wanted, and against the conventions.
+func callAsked[C keptCall](t *testing.T, c C) []any {
+	t.Helper()
+	args := withRoom(c)
+	whole := memoryPrint(args)
+	got, want := args.ask(), c.wanted()
+	if memoryPrint(args) != whole {
+		t.Errorf("%v: wrote into an argument, or behind it", c)
+	}
+	if shared := sharesMemory(got, []any{args}); shared != "" {
+		t.Errorf("%v: memory is shared: %s", c, shared)
+	}
+	for i := range want {
+		if !sameValue(got[i], want[i]) {
+			t.Errorf("%v\n  answers %.2000s\n  not %.2000s", c, fmt.Sprintf("%+v", got[i]), fmt.Sprintf("%+v", want[i]))
+		}
+	}
+	return got
+}
+
+// keepNothing: what is written into an answer is seen nowhere else, and no call keeps anything for another.
+func keepNothing(t *testing.T, calls []keptCall) {
+	t.Helper()
+	for i, c := range calls {
+		args := withRoom(c)
+		whole, want := memoryPrint(args), c.wanted()
+		first := args.ask()
+		scribbleOver(calls[(i+1)%len(calls)].ask())
+		scribbleOver(args.ask())
+		if !sameValue(first, want) {
+			t.Errorf("%v: two answers share memory", c)
+		}
+		scribbleOver(first)
+		if memoryPrint(args) != whole || !sameValue(args.ask(), want) {
+			t.Errorf("%v: what is written into an answer is seen elsewhere", c)
+		}
+		second := args.ask()
+		scribbleOver([]any{args})
+		if !sameValue(second, want) {
+			t.Errorf("%v: an answer shares memory with an argument", c)
 		}
 	}
 }

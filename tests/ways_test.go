@@ -939,3 +939,33 @@ func TestWhatAnEventDoesIsAMethodExpressionInAMap(t *testing.T) {
 		}
 	}
 }
+
+// methodValues: which methods of these are told of a value in this function, and not called there.
+func methodValues(fn *ast.FuncDecl, methods map[string]bool, kind string) map[string]bool {
+	of, called, out := takenAs(fn, kind), map[ast.Expr]bool{}, map[string]bool{}
+	ast.Inspect(fn, func(n ast.Node) bool {
+		switch x := n.(type) {
+		case *ast.CallExpr:
+			called[x.Fun] = true
+		case *ast.SelectorExpr:
+			id, ok := x.X.(*ast.Ident)
+			if ok && of[id.Name] && !called[x] && methods[kind+"."+x.Sel.Name] {
+				out[x.Sel.Name] = true
+			}
+		}
+		return true
+	})
+	return out
+}
+
+func TestWhatIsAskedOfAWorldIsAMethodValue(t *testing.T) {
+	f, err := parser.ParseFile(token.NewFileSet(), "../impl/l16_safe.go", nil, 0)
+	if err != nil {
+		t.Fatal(err)
+	}
+	for name, many := range map[string]int{"Safe": 4, "Premise": 1} {
+		if values := methodValues(bodyOf(f, name), methodsOf(f), "World"); len(values) != many {
+			t.Errorf("%s: what is asked is no method value: %v", name, values)
+		}
+	}
+}
