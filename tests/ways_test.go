@@ -969,3 +969,29 @@ func TestWhatIsAskedOfAWorldIsAMethodValue(t *testing.T) {
 		}
 	}
 }
+
+// assertsTwo: whether n tells by an assertion with two values whether something is of this type.
+func assertsTwo(n ast.Node, kind string) bool {
+	a, ok := n.(*ast.AssignStmt)
+	if !ok || len(a.Lhs) != 2 || len(a.Rhs) != 1 {
+		return false
+	}
+	x, ok := a.Rhs[0].(*ast.TypeAssertExpr)
+	if !ok {
+		return false
+	}
+	of, ok := x.Type.(*ast.Ident)
+	return ok && of.Name == kind
+}
+
+func TestAProofIsToldByAnAssertion(t *testing.T) {
+	f, err := parser.ParseFile(token.NewFileSet(), "../impl/l17_client.go", nil, 0)
+	if err != nil {
+		t.Fatal(err)
+	}
+	for _, name := range []string{"ProofOf", "FollowAll"} {
+		if !anyNode(reachedIn(f, name), func(n ast.Node) bool { return assertsTwo(n, "Proof") }) {
+			t.Errorf("%s: a proof is not told by an assertion with two values", name)
+		}
+	}
+}
