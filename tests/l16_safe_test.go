@@ -13,8 +13,8 @@ import (
 	"loop.example/g00194/impl"
 )
 
-// premiseWanted sums without a limit, set by set.
-func premiseWanted(w impl.World) bool {
+// setsWanted: who votes, or voted, as far as the world tells it.
+func setsWanted(w impl.World) [][]impl.Val {
 	sets := [][]impl.Val{setOfWanted(w.Base)}
 	for _, n := range w.Nodes {
 		sets = append(sets, n.Set)
@@ -26,7 +26,12 @@ func premiseWanted(w impl.World) bool {
 			}
 		}
 	}
-	for _, set := range sets {
+	return sets
+}
+
+// premiseWanted sums without a limit, set by set.
+func premiseWanted(w impl.World) bool {
+	for _, set := range setsWanted(w) {
 		foul, all := new(big.Int), new(big.Int)
 		for _, v := range set {
 			all.Add(all, big.NewInt(int64(v.Weight)))
@@ -881,18 +886,22 @@ func (x schemer) words() []impl.Msg {
 	return l
 }
 
-// A turmoil is a world in which anything happens, and what of that was done.
+// A turmoil is a world in which anything happens that is not barred, and what of that was done.
 type turmoil struct {
 	tally
-	r *rand.Rand
-	w impl.World
+	r    *rand.Rand
+	w    impl.World
+	bars func(impl.Event) bool
 }
 
 func turmoilOf(seed int, w impl.World) *turmoil {
-	return &turmoil{tally{map[int]int{}, map[int]int{}}, rand.New(rand.NewSource(int64(seed))), w}
+	return &turmoil{tally{map[int]int{}, map[int]int{}}, rand.New(rand.NewSource(int64(seed))), w, func(impl.Event) bool { return false }}
 }
 
 func (x *turmoil) do(e impl.Event) bool {
+	if x.bars(e) {
+		return false
+	}
 	after, ok := impl.Do(x.w, e)
 	x.w = after
 	x.count(e.Kind, ok)

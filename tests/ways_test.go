@@ -995,3 +995,109 @@ func TestAProofIsToldByAnAssertion(t *testing.T) {
 		}
 	}
 }
+
+// embedsOf: the struct types of a file, each with the types of the file that it embeds.
+func embedsOf(f *ast.File) map[string][]string {
+	out := map[string][]string{}
+	ast.Inspect(f, func(n ast.Node) bool {
+		s, ok := n.(*ast.TypeSpec)
+		if !ok {
+			return true
+		}
+		if x, ok := s.Type.(*ast.StructType); ok {
+			for _, field := range x.Fields.List {
+				if of, ok := field.Type.(*ast.Ident); ok && len(field.Names) == 0 {
+					out[s.Name.Name] = append(out[s.Name.Name], of.Name)
+				}
+			}
+		}
+		return true
+	})
+	return out
+}
+
+// receiverOf: the type that fn is a method of, also of a pointer to it, and by which name fn calls what it is a method of.
+func receiverOf(fn *ast.FuncDecl) (string, string) {
+	if fn.Recv == nil || len(fn.Recv.List[0].Names) == 0 {
+		return "", ""
+	}
+	of := fn.Recv.List[0].Type
+	if star, ok := of.(*ast.StarExpr); ok {
+		of = star.X
+	}
+	id, ok := of.(*ast.Ident)
+	if !ok {
+		return "", ""
+	}
+	return id.Name, fn.Recv.List[0].Names[0].Name
+}
+
+// methodsBy: the methods of a file by the type that they are methods of, also of pointers to it.
+func methodsBy(f *ast.File, of string) map[string]*ast.FuncDecl {
+	out := map[string]*ast.FuncDecl{}
+	for _, d := range f.Decls {
+		if fn, ok := d.(*ast.FuncDecl); ok {
+			if kind, _ := receiverOf(fn); kind == of {
+				out[fn.Name.Name] = fn
+			}
+		}
+	}
+	return out
+}
+
+// callsOnItself: which of these methods fn calls on what it is a method of.
+func callsOnItself(fn *ast.FuncDecl, methods map[string]*ast.FuncDecl) map[string]bool {
+	_, self := receiverOf(fn)
+	out := map[string]bool{}
+	ast.Inspect(fn, func(n ast.Node) bool {
+		if c, ok := n.(*ast.CallExpr); ok {
+			if s, ok := c.Fun.(*ast.SelectorExpr); ok && methods[s.Sel.Name] != nil {
+				id, ok := s.X.(*ast.Ident)
+				out[s.Sel.Name] = out[s.Sel.Name] || ok && id.Name == self
+			}
+		}
+		return true
+	})
+	return out
+}
+
+// clearsOfItself: whether fn clears a field of what it is a method of.
+func clearsOfItself(fn *ast.FuncDecl) bool {
+	_, self := receiverOf(fn)
+	return anyNode([]*ast.FuncDecl{fn}, func(n ast.Node) bool {
+		if !isCallOf(n, "clear") {
+			return false
+		}
+		s, ok := n.(*ast.CallExpr).Args[0].(*ast.SelectorExpr)
+		if !ok {
+			return false
+		}
+		id, ok := s.X.(*ast.Ident)
+		return ok && id.Name == self
+	})
+}
+
+func TestRoundsEmbedWhatAllOfThemHave(t *testing.T) {
+	f, err := parser.ParseFile(token.NewFileSet(), "../impl/l18_quiet.go", nil, 0)
+	if err != nil {
+		t.Fatal(err)
+	}
+	promoted, cleared := map[string]bool{}, false
+	for kind, embedded := range embedsOf(f) {
+		for _, part := range embedded {
+			methods := methodsBy(f, part)
+			for _, fn := range methodsBy(f, kind) {
+				for name, calls := range callsOnItself(fn, methods) {
+					promoted[name] = promoted[name] || calls
+					cleared = cleared || calls && clearsOfItself(methods[name])
+				}
+			}
+		}
+	}
+	if !promoted["exchange"] || !promoted["drain"] {
+		t.Error("rounds have no promoted methods of what they embed:", embedsOf(f), promoted)
+	}
+	if !cleared {
+		t.Error("what was heard is not cleared for each")
+	}
+}
